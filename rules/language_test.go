@@ -96,6 +96,25 @@ func TestImports(t *testing.T) {
 	}
 }
 
+// Chapter 4: hash keeps nothing, and calls api alone.
+func TestHashStandsAlone(t *testing.T) {
+	for _, s := range sources(t) {
+		if s.layer != "hash" {
+			continue
+		}
+		for _, spec := range s.file.Imports {
+			if spec.Path.Value != `"granary/api"` {
+				t.Errorf("%s imports %s", s.path, spec.Path.Value)
+			}
+		}
+		for _, d := range s.file.Decls {
+			if g, ok := d.(*ast.GenDecl); ok && g.Tok == token.VAR {
+				t.Errorf("%s keeps a variable", s.path)
+			}
+		}
+	}
+}
+
 // LANGUAGE.md 2 and 9: no lines for the compiler, gofmt's layout, functions of a bounded length.
 func TestLayout(t *testing.T) {
 	for _, s := range sources(t) {
