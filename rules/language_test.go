@@ -115,6 +115,26 @@ func TestHashStandsAlone(t *testing.T) {
 	}
 }
 
+// Chapter 11: words keeps nothing, and of the project calls api alone.
+func TestWordsStandAlone(t *testing.T) {
+	for _, s := range sources(t) {
+		if s.layer != "words" {
+			continue
+		}
+		for _, spec := range s.file.Imports {
+			path, _ := strconv.Unquote(spec.Path.Value)
+			if strings.HasPrefix(path, "granary/") && path != "granary/api" {
+				t.Errorf("%s imports %s", s.path, path)
+			}
+		}
+		for _, d := range s.file.Decls {
+			if g, ok := d.(*ast.GenDecl); ok && g.Tok == token.VAR {
+				t.Errorf("%s keeps a variable", s.path)
+			}
+		}
+	}
+}
+
 // LANGUAGE.md 2 and 9: no lines for the compiler, gofmt's layout, functions of a bounded length.
 func TestLayout(t *testing.T) {
 	for _, s := range sources(t) {
