@@ -107,6 +107,33 @@ func TestHashStandsAlone(t *testing.T) {
 				t.Errorf("%s imports %s", s.path, spec.Path.Value)
 			}
 		}
+	}
+	keepsNothing(t, "hash")
+}
+
+// callsAlone: of the project's packages a layer imports no others than these.
+func callsAlone(t *testing.T, layer string, others ...string) {
+	t.Helper()
+	for _, s := range sources(t) {
+		if s.layer != layer {
+			continue
+		}
+		for _, spec := range s.file.Imports {
+			path, _ := strconv.Unquote(spec.Path.Value)
+			if other, own := strings.CutPrefix(path, "granary/"); own && !slices.Contains(others, other) {
+				t.Errorf("%s imports %s", s.path, path)
+			}
+		}
+	}
+}
+
+// keepsNothing: a layer has no variable of its own.
+func keepsNothing(t *testing.T, layer string) {
+	t.Helper()
+	for _, s := range sources(t) {
+		if s.layer != layer {
+			continue
+		}
 		for _, d := range s.file.Decls {
 			if g, ok := d.(*ast.GenDecl); ok && g.Tok == token.VAR {
 				t.Errorf("%s keeps a variable", s.path)
@@ -115,24 +142,16 @@ func TestHashStandsAlone(t *testing.T) {
 	}
 }
 
-// Chapter 11: words keeps nothing, and of the project calls api alone.
+// Chapter 11: words keeps nothing, and calls api alone.
 func TestWordsStandAlone(t *testing.T) {
-	for _, s := range sources(t) {
-		if s.layer != "words" {
-			continue
-		}
-		for _, spec := range s.file.Imports {
-			path, _ := strconv.Unquote(spec.Path.Value)
-			if strings.HasPrefix(path, "granary/") && path != "granary/api" {
-				t.Errorf("%s imports %s", s.path, path)
-			}
-		}
-		for _, d := range s.file.Decls {
-			if g, ok := d.(*ast.GenDecl); ok && g.Tok == token.VAR {
-				t.Errorf("%s keeps a variable", s.path)
-			}
-		}
-	}
+	callsAlone(t, "words", "api")
+	keepsNothing(t, "words")
+}
+
+// Chapter 12: line calls words, and a Feeder hangs on its limit and its bytes alone.
+func TestLineCallsWords(t *testing.T) {
+	callsAlone(t, "line", "api", "words")
+	keepsNothing(t, "line")
 }
 
 // LANGUAGE.md 2 and 9: no lines for the compiler, gofmt's layout, functions of a bounded length.
