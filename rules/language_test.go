@@ -154,6 +154,12 @@ func TestLineCallsWords(t *testing.T) {
 	keepsNothing(t, "line")
 }
 
+// Chapter 13: reply keeps nothing, and calls api alone.
+func TestReplyStandsAlone(t *testing.T) {
+	callsAlone(t, "reply", "api")
+	keepsNothing(t, "reply")
+}
+
 // LANGUAGE.md 2 and 9: no lines for the compiler, gofmt's layout, functions of a bounded length.
 func TestLayout(t *testing.T) {
 	for _, s := range sources(t) {
