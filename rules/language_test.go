@@ -160,6 +160,12 @@ func TestReplyStandsAlone(t *testing.T) {
 	keepsNothing(t, "reply")
 }
 
+// Chapter 14: meta keeps nothing, and calls item, tide, store and words.
+func TestMetaKeepsNothing(t *testing.T) {
+	callsAlone(t, "meta", "api", "item", "tide", "store", "words")
+	keepsNothing(t, "meta")
+}
+
 // LANGUAGE.md 2 and 9: no lines for the compiler, gofmt's layout, functions of a bounded length.
 func TestLayout(t *testing.T) {
 	for _, s := range sources(t) {
