@@ -166,6 +166,11 @@ func TestMetaKeepsNothing(t *testing.T) {
 	keepsNothing(t, "meta")
 }
 
+// Chapter 15: count knows no store, and calls api alone.
+func TestCountStandsAlone(t *testing.T) {
+	callsAlone(t, "count", "api")
+}
+
 // LANGUAGE.md 2 and 9: no lines for the compiler, gofmt's layout, functions of a bounded length.
 func TestLayout(t *testing.T) {
 	for _, s := range sources(t) {
