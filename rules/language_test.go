@@ -171,6 +171,12 @@ func TestCountStandsAlone(t *testing.T) {
 	callsAlone(t, "count", "api")
 }
 
+// Chapter 16: serve calls store, line, reply, meta and count; what it keeps stands in a Server.
+func TestServeKeepsNothing(t *testing.T) {
+	callsAlone(t, "serve", "api", "store", "line", "reply", "meta", "count")
+	keepsNothing(t, "serve")
+}
+
 // LANGUAGE.md 2 and 9: no lines for the compiler, gofmt's layout, functions of a bounded length.
 func TestLayout(t *testing.T) {
 	for _, s := range sources(t) {
