@@ -177,6 +177,12 @@ func TestServeKeepsNothing(t *testing.T) {
 	keepsNothing(t, "serve")
 }
 
+// Chapter 17: shard calls hash and store, and item for what P10.2 says of a key; what it keeps stands in a Store.
+func TestShardKeepsNothing(t *testing.T) {
+	callsAlone(t, "shard", "api", "hash", "item", "store")
+	keepsNothing(t, "shard")
+}
+
 // LANGUAGE.md 2 and 9: no lines for the compiler, gofmt's layout, functions of a bounded length.
 func TestLayout(t *testing.T) {
 	for _, s := range sources(t) {
