@@ -183,6 +183,12 @@ func TestShardKeepsNothing(t *testing.T) {
 	keepsNothing(t, "shard")
 }
 
+// Chapter 18: warm calls hash, tide and store; what it keeps stands in a Disk.
+func TestWarmKeepsNothing(t *testing.T) {
+	callsAlone(t, "warm", "api", "hash", "tide", "store")
+	keepsNothing(t, "warm")
+}
+
 // LANGUAGE.md 2 and 9: no lines for the compiler, gofmt's layout, functions of a bounded length.
 func TestLayout(t *testing.T) {
 	for _, s := range sources(t) {
