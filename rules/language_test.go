@@ -189,6 +189,12 @@ func TestWarmKeepsNothing(t *testing.T) {
 	keepsNothing(t, "warm")
 }
 
+// Chapter 19: ring calls hash; what it keeps stands in a Ring.
+func TestRingKeepsNothing(t *testing.T) {
+	callsAlone(t, "ring", "api", "hash")
+	keepsNothing(t, "ring")
+}
+
 // LANGUAGE.md 2 and 9: no lines for the compiler, gofmt's layout, functions of a bounded length.
 func TestLayout(t *testing.T) {
 	for _, s := range sources(t) {
