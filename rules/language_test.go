@@ -195,6 +195,12 @@ func TestRingKeepsNothing(t *testing.T) {
 	keepsNothing(t, "ring")
 }
 
+// Chapter 20: client calls words and reply; what it keeps stands in a Client.
+func TestClientKeepsNothing(t *testing.T) {
+	callsAlone(t, "client", "api", "words", "reply")
+	keepsNothing(t, "client")
+}
+
 // LANGUAGE.md 2 and 9: no lines for the compiler, gofmt's layout, functions of a bounded length.
 func TestLayout(t *testing.T) {
 	for _, s := range sources(t) {
