@@ -201,6 +201,12 @@ func TestClientKeepsNothing(t *testing.T) {
 	keepsNothing(t, "client")
 }
 
+// Chapter 21: route calls words, line, reply, ring and client; what it keeps stands in a Router.
+func TestRouteKeepsNothing(t *testing.T) {
+	callsAlone(t, "route", "api", "words", "line", "reply", "ring", "client")
+	keepsNothing(t, "route")
+}
+
 // LANGUAGE.md 2 and 9: no lines for the compiler, gofmt's layout, functions of a bounded length.
 func TestLayout(t *testing.T) {
 	for _, s := range sources(t) {
